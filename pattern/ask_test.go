@@ -190,6 +190,11 @@ func TestAt(t *testing.T) {
 	} {
 		isAt(what, v, path, api.Value{}, false)
 	}
+	for kind := -1; kind < 6; kind++ { // values of any shape: a part is one, whatever the Kind
+		odd := api.Value{Kind: kind, N: 3, Args: []api.Value{integer(1), {Kind: kind, Args: []api.Value{atom(2)}}}}
+		isAt("a part of a value of any shape", odd, []int{1, 0}, atom(2), true)
+		isAt("no part of a value of any shape", odd, []int{2}, api.Value{}, false)
+	}
 	isAt("of nothing", api.Value{}, []int{0}, api.Value{}, false)
 	isAt("of a tuple of no part", tuple(), []int{0}, api.Value{}, false)
 	isAt("what has a list of no part", api.Value{Kind: api.ValInt, Args: []api.Value{}}, []int{0}, api.Value{}, false)

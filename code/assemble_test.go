@@ -43,7 +43,7 @@ func TestAssembleTellsWordsAndLabels(t *testing.T) {
 	}
 }
 
-// P19.2: what a kind does not have counts for nothing: a name, an instruction, a value; nor the Imm of a branch.
+// P19.2: what a kind does not have counts for nothing: a name, an instruction, a value.
 func TestWhatKindsDoNotHave(t *testing.T) {
 	all := func(i api.Item, fill api.Inst) api.Item {
 		if i.Name == "" {
@@ -72,12 +72,59 @@ func TestWhatKindsDoNotHave(t *testing.T) {
 			t.Errorf("%q, %q", text(t, words), placed(labels))
 		}
 	}
-	for _, imm := range []int{0, 1, -4, 8, 4096, math.MinInt, math.MaxInt} {
-		b := beq("z")
-		b.Inst.Imm = imm
-		if words, _ := made(t, joined(b, label("z")), 0); text(t, words) != "beq x1 x2 4" {
-			t.Errorf("Imm %d: %q", imm, text(t, words))
+}
+
+// of is a branch that has an Imm of its own.
+func of(imm int, b api.Item) api.Item {
+	b.Inst.Imm = imm
+	return b
+}
+
+// P19.2: a branch whose Imm is not 0 is no item, wherever its label stands, and whatever else there is.
+func TestBranchesWithAnImm(t *testing.T) {
+	for _, op := range branches() {
+		for _, imm := range []int{math.MinInt, -1 << 32, -4098, -4096, -4, -1, 1, 2, 3, 4, 8, 4094, 4095, 4096, 1 << 13, 1 << 32, 1 << 40, math.MaxInt} {
+			b := of(imm, branch(op, "z"))
+			for what, l := range map[string][]api.Item{
+				"one that goes on":     joined(b, label("z")),
+				"one that goes back":   joined(label("z"), nop(), b),
+				"one far ahead of it":  joined(b, nops(1100), label("z")),
+				"one far behind it":    joined(label("z"), nops(1100), b),
+				"one between others":   joined(label("z"), branch(op, "z"), b, branch(op, "z")),
+				"one behind a bad one": joined(api.Item{}, b, label("z")),
+			} {
+				refused(t, what, l, 0, api.ErrInst)
+			}
 		}
+	}
+}
+
+// P19.2: so, too, if its Imm is just as far as its label.
+func TestBranchesWithTheImmOfTheirLabel(t *testing.T) {
+	for _, op := range branches() {
+		for _, n := range []int{0, 1, 9, 1022, 1023, 1100} {
+			forth := joined(of(4*n+4, branch(op, "z")), nops(n), label("z"))
+			back := joined(label("z"), nop(), nops(n), of(-4*n-4, branch(op, "z")))
+			refused(t, "one that goes on", forth, 0, api.ErrInst)
+			refused(t, "one that goes back", back, 0, api.ErrInst)
+			forth[0].Inst.Imm, back[len(back)-1].Inst.Imm = 0, 0
+			made(t, forth, 0)
+			made(t, back, 0)
+		}
+	}
+}
+
+// P19.2: so, too, in thrown items that may be but for it.
+func TestBranchesWithAnImmAmongOthers(t *testing.T) {
+	r := row(12)
+	for range 300 {
+		l := r.source(one(&r, 1, 5, 40, 1200), 1+r.next(5))
+		made(t, l, 0)
+		n := r.next(len(l) + 1)
+		l = slices.Insert(l, n, of(int(r.number()|1<<r.next(64)), branch(one(&r, branches()...), "l0")))
+		refused(t, "one among others", l, 0, api.ErrInst)
+		l[n].Inst.Imm = 0
+		made(t, l, 0)
 	}
 }
 
@@ -128,7 +175,7 @@ func TestItemsThatMayNotBe(t *testing.T) {
 	}
 	for _, i := range []api.Inst{
 		{Op: api.OpBeq, Rs1: 32}, {Op: api.OpBne, Rs1: -1}, {Op: api.OpBlt, Rs2: 32}, {Op: api.OpBge, Rs2: -1},
-		{Op: api.OpBltu, Rd: 1}, {Op: api.OpBgeu, Aq: true}, {Op: api.OpBgeu, Rl: true}, {Op: api.OpBeq, Rs1: 32, Imm: 8},
+		{Op: api.OpBltu, Rd: 1}, {Op: api.OpBgeu, Aq: true}, {Op: api.OpBgeu, Rl: true}, {Op: api.OpBeq, Rs1: 32, Imm: 8}, {Op: api.OpBne, Imm: 4},
 	} {
 		l = append(l, api.Item{Kind: api.ItemBranch, Inst: i, Name: "a"})
 	}
@@ -176,6 +223,10 @@ func TestOrderOfErrors(t *testing.T) {
 		{"a great base", joined(bad, twice), 1 << 31, api.ErrArg},
 		{"a bad jump to none", joined(jump(32, "a")), 0, api.ErrLabel},
 		{"a bad branch to none", joined(branch(api.OpAdd, "a")), 0, api.ErrLabel},
+		{"a branch with an Imm, to none", joined(of(4, beq("a"))), 0, api.ErrLabel},
+		{"a branch with an Imm, to two", joined(of(4, beq("b")), twice), 0, api.ErrLabel},
+		{"a branch with an Imm, and a base", joined(of(4, beq("a")), label("a")), 2, api.ErrArg},
+		{"a branch with an Imm, and too many words", joined(many, of(4, beq("a")), label("a")), 0, api.ErrInst},
 		{"a bad address of none", joined(address(0, "a")), 0, api.ErrLabel},
 		{"a bad item behind a good one", joined(nop(), bad, label("a")), 0, api.ErrInst},
 	} {

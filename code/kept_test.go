@@ -11,9 +11,7 @@ import (
 
 // Rules 4 and 8: what is handed in stays as it was, its spare room too, and what lies behind its length is not read.
 func TestKept(t *testing.T) {
-	b := beq("z")
-	b.Inst.Imm = 12
-	all := joined(label("a"), b, nops(1100), jump(1, "a"), address(2, "z"), constant(3, 5000), label("z"), label("a"), api.Item{Kind: 9}, beq("y"))
+	all := joined(label("a"), beq("z"), nops(1100), jump(1, "a"), address(2, "z"), constant(3, 5000), label("z"), label("a"), api.Item{Kind: 9}, of(12, beq("y")))
 	l := all[:len(all)-3]
 	before := fmt.Sprint(all)
 	words, labels := made(t, l, 0)

@@ -49,10 +49,9 @@ func bad(i api.Item) bool {
 	case api.ItemLabel:
 		return false
 	case api.ItemBranch:
-		if opposite(i.Inst.Op) == 0 {
+		if opposite(i.Inst.Op) == 0 || i.Inst.Imm != 0 { // how far it goes is told by its label alone
 			return true
 		}
-		i.Inst.Imm = 0 // how far it goes is told by its label alone
 		fallthrough
 	case api.ItemInst:
 		return !inst.Good(i.Inst)

@@ -12,6 +12,16 @@ const (
 	Second  = 11 // what it is given behind that
 )
 
+// The registers that an actor's code has besides, while it runs.
+const (
+	Record = 8  // its record's address
+	Hart   = 18 // the number of the hart on which it runs
+	Most   = 19 // how many actors there may be
+	Actor  = 20 // its number
+	Left   = 21 // how often it may become until another one runs
+	Rounds = 22 // how often the hart went round
+)
+
 // word is how many bytes a word of an image has.
 const word = 8
 
@@ -76,6 +86,11 @@ func (w *Writer) Jump(rd int, name string) {
 // Const lays what gives a register a number.
 func (w *Writer) Const(rd int, v uint64) {
 	w.list = append(w.list, api.Item{Kind: api.ItemConst, Inst: api.Inst{Rd: rd}, Value: v})
+}
+
+// Addr lays what gives a register where a label stands.
+func (w *Writer) Addr(rd int, name string) {
+	w.list = append(w.list, api.Item{Kind: api.ItemAddr, Inst: api.Inst{Rd: rd}, Name: name})
 }
 
 // Number lays an operation of a register and a number.

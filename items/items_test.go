@@ -42,8 +42,9 @@ func TestWriter(t *testing.T) {
 	w.Label("b")
 	w.Jump(1, "b")
 	w.Inst(api.Inst{Op: api.OpAmoaddd, Rd: 5, Rs1: 6, Rs2: 7, Aq: true})
+	w.Addr(5, "b")
 	w.Back()
-	i, n, e := listing.Read("andi x5 x6 -7\nsub x5 x6 x7\naddi x5 x6 0\nld x5 x6 24\nsd x6 x5 -16\nfence 51\nlui x5 4096\nbltu x5 x6 -28\njal x1 0\namoadd.d.aq x5 x6 x7\njalr x0 x1 0\n")
+	i, n, e := listing.Read("andi x5 x6 -7\nsub x5 x6 x7\naddi x5 x6 0\nld x5 x6 24\nsd x6 x5 -16\nfence 51\nlui x5 4096\nbltu x5 x6 -28\njal x1 0\namoadd.d.aq x5 x6 x7\nlui x5 0\naddi x5 x5 32\njalr x0 x1 0\n")
 	if e != api.OK {
 		t.Fatalf("line %d: error %d", n, int(e))
 	}

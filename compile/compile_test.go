@@ -238,6 +238,34 @@ func TestImage(t *testing.T) {
 	}
 }
 
+// nested tells a body in which others stand: so many ifs, on both sides, and then receives, each in the late part of another one.
+func nested(ifs, receives int) string {
+	if ifs > 0 {
+		s := nested(ifs-1, receives)
+		return "{if 0" + s + "else" + s + "}"
+	}
+	return strings.Repeat("{receive{after 0", receives) + "{stop}" + strings.Repeat("}}", receives)
+}
+
+// P26.4: no program of the grammar has more code than there is room for, also where nearly all of its text is what has most code.
+func TestGreatCode(t *testing.T) {
+	deep := strings.Repeat("{", 15) + "_" + strings.Repeat("}", 15) + "{stop}"
+	for what, body := range map[string]string{
+		"receives":              "{if 0" + nested(5, 55) + "else" + nested(5, 53) + "}",
+		"receives and patterns": "{if 0" + nested(5, 52) + "else{if 0" + nested(5, 50) + "else{receive{" + strings.Repeat(deep, 30) + "}}}}",
+		"patterns":              "{receive{" + strings.Repeat(deep, 226) + "}}",
+		"products":              "{out x" + strings.Repeat(";out x*x*x*x*x*x", 330) + ";stop}",
+		"numbers":               "{out x" + strings.Repeat(";out{2305843009213693951}", 1300) + ";stop}",
+	} {
+		src := "actor A(x)" + body + "main A(0)"
+		i, at, e := compile.Program([]byte(src), conf())
+		if e != api.OK || len(i.Words) < 10000 {
+			t.Fatalf("%s: %d bytes, error %d at %d, %d words", what, len(src), int(e), at, len(i.Words))
+		}
+		held(t, src, i.Conf, i)
+	}
+}
+
 // P26.1, W6: the same text and config give the same image; so does the text of its tree, but for places; and blanks and comments change nothing but these.
 func TestAgain(t *testing.T) {
 	r := bench.Row(2)

@@ -21,6 +21,13 @@ const (
 	lacks  = 15 // whether there is no room
 )
 
+// rest lays the routine that lets other actors run: it comes back when it is this one's turn again.
+func (l *lowering) rest() {
+	l.Label("lower.rest")
+	l.Store(items.From, items.Record, image.WPC)
+	l.Jump(items.Zero, "sched.skip")
+}
+
 // give lays the routine that gives the actor that is being made one value more.
 func (l *lowering) give() {
 	from := block // no copy changes it

@@ -427,19 +427,19 @@ func (w *telling) ended() {
 	if w.full || w.lost {
 		return
 	}
-	waiting := 0
 	for a := range w.m.Actors() {
-		if w.m.Next(a) != model.None {
-			w.Fatalf("actor %d has not stopped in the model", a)
+		if w.m.Next(a) != model.None || w.m.Waiting(a) != 0 {
+			w.Fatalf("actor %d has not stopped in the model, or has messages there", a)
 		}
-		waiting += w.m.Waiting(a)
 	}
+	// The model keeps nothing of what was sent to one that has stopped; its block is free no more.
+	lost := w.count["sent to one that stopped"]
 	free := 0
 	for top := w.word(w.i.Layout.Globals+8*image.GTop) & (1<<32 - 1); top != 0; free++ {
 		top = w.word(image.Block(w.i.Layout, int(top-1)) + 8*image.BNext)
 	}
-	if free > w.i.Conf.Blocks-waiting {
-		w.Fatalf("%d blocks are free of %d, %d messages are left", free, w.i.Conf.Blocks, waiting)
+	if free > w.i.Conf.Blocks-lost {
+		w.Fatalf("%d blocks are free of %d, %d messages went to actors that had stopped", free, w.i.Conf.Blocks, lost)
 	}
 }
 

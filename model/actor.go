@@ -9,7 +9,7 @@ import (
 // actor is one of a model's. Models that were cloned share its lists: none of them is written
 // into, and what is put behind one stands in room that no other model has.
 type actor struct {
-	next   *step // what it is to do next; nil, once it has stopped
+	next   *step // what it is to do next; nil, once it has stopped: it has nothing else then, and gets nothing any more
 	names  []string
 	values []api.Value // of the names, place by place
 	way    []api.Value // messages that are on the way to it

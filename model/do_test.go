@@ -130,7 +130,7 @@ func TestArrive(t *testing.T) {
 	stands(t, m, 0, model.Stop, "", "", "1 2 3")
 }
 
-// P16.4: what has stopped has lost its messages, those on the way and those in its box; what is sent to it then is on its way for ever.
+// P16.4: what has stopped has lost its messages, those on the way and those in its box, and gets none that is sent to it then.
 func TestStop(t *testing.T) {
 	m := begun(t, "actor A() { let b = spawn B(); send b, 1; send b, 2; send b, 3; stop } actor B() { stop } main A()")
 	runs(t, m, 0, 3)
@@ -140,11 +140,95 @@ func TestStop(t *testing.T) {
 	stands(t, m, 1, model.None, "", "", "")
 	does(t, m, model.Arrive, 1, api.ErrModel)
 	runs(t, m, 0, 1)
-	stands(t, m, 1, model.None, "", "3", "")
+	stands(t, m, 1, model.None, "", "", "")
 	does(t, m, model.Arrive, 1, api.ErrModel)
 	runs(t, m, 0, 1)
 	if m.Actors() != 2 || len(m.Moves()) != 0 {
 		t.Error(m.Actors(), m.Moves())
+	}
+}
+
+// P16.4: a message to an actor that has stopped is kept nowhere, whatever it is; the send goes on, and what it is said to do next is what it ever is.
+func TestSendToStopped(t *testing.T) {
+	for src, v := range map[string]string{
+		"1": "1", "'b": "a1", "self": "p0", "b": "p1", "c": "p2", "{b, {'a, 2}}": "{p1,{a0,2}}", "b + 1": "1", "x": value.Text(model.Eval(expr(t, great(4096)), nil, nil, nil, 0)),
+	} {
+		m := begun(t, "actor A(x) { let b = spawn B(); let c = spawn C(); send b, "+src+"; send c, "+src+"; out 'a; out 'b; stop } actor B() { stop } actor C() { receive { 9 { stop } } } main A("+great(4096)+")")
+		runs(t, m, 0, 2)
+		living := m.Clone()
+		runs(t, m, 1, 1)
+		stands(t, m, 0, model.Send, "p1 "+v, "", "")
+		stands(t, living, 0, model.Send, "p1 "+v, "", "")
+		runs(t, m, 0, 1)
+		stands(t, m, 1, model.None, "", "", "")
+		does(t, m, model.Arrive, 1, api.ErrModel)
+		// One that has not stopped gets it.
+		runs(t, living, 0, 1)
+		stands(t, living, 1, model.Stop, "", v, "")
+		stands(t, m, 0, model.Send, "p2 "+v, "", "")
+		runs(t, m, 0, 1)
+		stands(t, m, 1, model.None, "", "", "")
+		stands(t, m, 2, model.Receive, "", v, "")
+		tells(t, m, 0, "a0")
+		tells(t, m, 0, "a1")
+	}
+	// A value that is too great is so whoever would get it.
+	m := begun(t, "actor A(x) { let b = spawn B(); send b, {x}; stop } actor B() { stop } main A("+great(4095)+")")
+	runs(t, m, 0, 1)
+	runs(t, m, 1, 1)
+	does(t, m, model.Run, 0, api.ErrRoom)
+	stands(t, m, 0, model.Send, "", "", "")
+	stands(t, m, 1, model.None, "", "", "")
+}
+
+// P16.4: it gets none from any actor: the one that made it, one that it made, one that was made behind its stop; and the first of all may have stopped, too.
+func TestSendToStoppedByAny(t *testing.T) {
+	// The one that sends was made behind the stop.
+	m := begun(t, "actor A(n) { let b = spawn B(); let c = spawn C(b, n); stop } actor B() { stop } actor C(b, n) { if 0 < n { send b, n; become C(b, n - 1) } else { out 'end; stop } } main A(2)")
+	runs(t, m, 0, 1)
+	runs(t, m, 1, 1)
+	runs(t, m, 0, 2)
+	for range 2 {
+		runs(t, m, 2, 3)
+		stands(t, m, 0, model.None, "", "", "")
+		stands(t, m, 1, model.None, "", "", "")
+	}
+	runs(t, m, 2, 1)
+	tells(t, m, 2, "a0")
+	runs(t, m, 2, 1)
+	if l := m.Moves(); len(l) != 0 || m.Actors() != 3 {
+		t.Error(l, m.Actors())
+	}
+	// Two that stop get what was sent ahead of that, till they stop, and nothing behind it.
+	m = begun(t, "actor A() { let b = spawn B(self); let c = spawn S(self, b); send b, c; send c, 1; stop } actor B(a) { let d = spawn S(self, a); send d, 2; stop } actor S(x, y) { send x, {self}; send y, {self}; become S(x, y) } main A()")
+	runs(t, m, 0, 2)
+	runs(t, m, 1, 1)
+	for _, k := range []int{2, 3} {
+		runs(t, m, k, 3)
+	}
+	runs(t, m, 0, 1)
+	stands(t, m, 0, model.Send, "p2 1", "{p2} {p3}", "")
+	stands(t, m, 1, model.Send, "p3 2", "{p2} {p3} p2", "")
+	arrives(t, m, 0, 1)
+	runs(t, m, 0, 2)
+	stands(t, m, 2, model.Send, "p0 {p2}", "1", "")
+	for _, k := range []int{2, 3} {
+		runs(t, m, k, 3)
+	}
+	stands(t, m, 0, model.None, "", "", "")
+	stands(t, m, 1, model.Send, "p3 2", "{p2} {p3} p2 {p2} {p3}", "")
+	arrives(t, m, 1, 2)
+	runs(t, m, 1, 2)
+	stands(t, m, 3, model.Send, "p1 {p3}", "2", "")
+	for range 3 {
+		for _, k := range []int{2, 3} {
+			runs(t, m, k, 3)
+		}
+		stands(t, m, 0, model.None, "", "", "")
+		stands(t, m, 1, model.None, "", "", "")
+	}
+	if l := m.Moves(); len(l) != 4 {
+		t.Error(l)
 	}
 }
 

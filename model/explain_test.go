@@ -92,6 +92,30 @@ func TestExplainMost(t *testing.T) {
 	isExplained(t, p, integers(47), 2000, false, false)
 }
 
+// P16.6: messages to one that has stopped make no models more that are to be tried.
+func TestExplainStopped(t *testing.T) {
+	// Ahead of its stop the message is on its way or has arrived: nine models; and with two messages 14.
+	for sends, models := range map[string]int{"": 5, "send b, 1;": 9, "send b, 1; send b, {2};": 14} {
+		p := laid(t, "actor A() { let b = spawn B(); "+sends+" stop } actor B() { stop } main A()")
+		isExplained(t, p, integers(1), models, false, true)
+		isExplained(t, p, integers(1), models-1, false, false)
+	}
+	// One that stops ahead of all that is sent to it, for ever.
+	p := laid(t, "actor A(b) { let c = spawn C(b, self); stop } actor C(b, a) { send b, 1; send a, {2}; become C(b, a) } main A(self)")
+	m := after(t, p, "r0 r0")
+	key := m.Key()
+	for range 3 {
+		runs(t, m, 1, 3)
+		if m.Key() != key {
+			t.Error(m.Key(), key)
+		}
+	}
+	// What is told behind many of them is found by as few models as if nothing were sent.
+	p = laid(t, "actor A() { let b = spawn B(self); receive { 'gone { become C(b, 12) } } } actor B(a) { send a, 'gone; stop } actor C(b, n) { if 0 < n { send b, n; become C(b, n - 1) } else { out n; stop } } main A()")
+	isExplained(t, p, integers(0), 200, true, true)
+	isExplained(t, p, integers(1), 5000, false, true)
+}
+
 // P16.6: a model of more than 16 actors is not gone on with.
 func TestExplainActors(t *testing.T) {
 	src := func(more string) string {

@@ -111,6 +111,41 @@ func TestKeyUnlike(t *testing.T) {
 	areAlike(t, p, "r0 r0 r1 r2", "r0 r0 r2 r1", true)
 }
 
+// P16.5: what was sent to one that has stopped makes no unlike model: neither how much it was, nor what, nor by whom, nor whether it was sent ahead of the stop.
+func TestKeyStopped(t *testing.T) {
+	p := laid(t, "actor A() { let b = spawn B(); let c = spawn S(b, 0); let d = spawn S(b, 0); stop } actor B() { receive { {_} { stop } after 0 { stop } } } actor S(b, n) { receive { after 0 { send b, n; become S(b, 0) } } } main A()")
+	made, stop := "r0 r0 r0 ", "l1 r1 "
+	for _, sent := range []string{stop + "l2 r2 r2", "l2 r2 r2 " + stop, "l2 r2 a1 r2 " + stop, "l2 " + stop + "r2 r2", stop + "l3 r3 r3", stop + "l2 r2 r2 l2 r2 r2 l3 r3 r3", "l2 r2 r2 l3 r3 r3 " + stop + "l2 r2 r2"} {
+		areAlike(t, p, made+stop, made+sent, true)
+		areAlike(t, p, made, made+sent, false)
+	}
+	areAlike(t, p, made, made+"l2 r2 r2", false)
+	// Of two that sent unlike messages to it, and are alike then.
+	p = laid(t, "actor A() { let b = spawn B(); send self, 0; receive { 0 { send b, 1; stop } after 0 { send b, {2}; receive { 0 { stop } } } } } actor B() { stop } main A()")
+	areAlike(t, p, "r0 r0 r1 a0 r0 r0", "r0 r0 r1 l0 r0 a0 r0", true)
+	areAlike(t, p, "r0 r0 a0 r0 r0", "r0 r0 l0 r0 a0 r0", false)
+	areAlike(t, p, "r0 r0 a0 r0 r0 r1", "r0 r0 l0 r0 a0 r0 r1", true)
+}
+
+// P16.5: clones of one model of which in one alone an actor has stopped.
+func TestCloneStopped(t *testing.T) {
+	p := laid(t, "actor A() { let b = spawn B(); send b, 1; send b, 2; send b, 3; stop } actor B() { stop } main A()")
+	m := after(t, p, "r0 r0 r0 a1")
+	c := m.Clone()
+	runs(t, m, 1, 1)
+	d := m.Clone()
+	for _, x := range []*model.Model{d, c, m} {
+		runs(t, x, 0, 1)
+	}
+	stands(t, m, 1, model.None, "", "", "")
+	stands(t, d, 1, model.None, "", "", "")
+	stands(t, c, 1, model.Stop, "", "2 3", "1")
+	runs(t, c, 1, 1)
+	if c.Key() != m.Key() || d.Key() != m.Key() {
+		t.Error(c.Key(), d.Key(), m.Key())
+	}
+}
+
 // P16.5: bodies that differ in one thing alone.
 func TestKeyNextUnlike(t *testing.T) {
 	for _, two := range [][2]string{

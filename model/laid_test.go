@@ -325,6 +325,7 @@ func programs(t *testing.T) []api.Program {
 		"actor M() { let s = spawn S(0); let a = spawn C(s); let b = spawn C(s); stop } actor S(n) { receive { {'inc, who} { send who, n + 1; become S(n + 1) } } } actor C(s) { send s, {'inc, self}; receive { v { out v; stop } } } main M()",
 		"actor A(n) { if n < 3 { let b = spawn A(n + 1); send b, self; receive { 'done { out n; stop } p { out {n, p}; send p, 'done; stop } } } else { stop } } main A(0)",
 		"actor A(x) { out x; become A({x, x}) } main A(0)",
+		"actor M() { let b = spawn B(0); let s = spawn S(b, 10); become S(b, 0) } actor B(n) { receive { x { out x; if n < 1 { become B(n + 1) } else { stop } } after 2 { out 'late; stop } } } actor S(b, n) { send b, n; become S(b, n + 1) } main M()",
 		"actor A() { let a = spawn A(); send a, {self, a}; receive { {x, y} { out x; out y; stop } after 0 { stop } } } main A()",
 	} {
 		l = append(l, laid(t, src))

@@ -26,7 +26,7 @@ func TestPlainly(t *testing.T) {
 	r := row(1)
 	errors := map[api.Errno]int{}
 	moves := map[string]int{}
-	for _, p := range slices.Concat(thrown(t, 2, 250), programs(t)) {
+	for _, p := range slices.Concat(thrown(t, 2, 250), programs(t), programs(t)) {
 		m, e := model.New(p)
 		w, f := plainly(p)
 		if e != f {
@@ -50,6 +50,9 @@ func TestPlainly(t *testing.T) {
 				x = one(&r, l...)
 			}
 			kind := fmt.Sprint(x.Kind, ms[k].Next(x.Actor))
+			if args := ms[k].Args(x.Actor); kind == "0 3" && len(args) > 0 && args[0].Kind == api.ValPid && ms[k].Next(args[0].N) == model.None {
+				kind = "to one that has stopped"
+			}
 			v, tells, e := ms[k].Do(x)
 			told, f := ws[k].do(x)
 			if e != f || tells != (told != "") || tells && value.Text(v) != told || !tells && value.Text(v) != "{}" {
@@ -66,7 +69,7 @@ func TestPlainly(t *testing.T) {
 			t.Errorf("%d: %d times alone", int(e), errors[e])
 		}
 	}
-	for _, kind := range []string{"0 1", "0 2", "0 3", "0 4", "0 5", "0 6", "1 5", "2 5"} {
+	for _, kind := range []string{"0 1", "0 2", "0 3", "0 4", "0 5", "0 6", "1 5", "2 5", "to one that has stopped"} {
 		if moves[kind] < 50 {
 			t.Errorf("%s: %d times alone", kind, moves[kind])
 		}

@@ -187,7 +187,7 @@ func (m *plain) do(x model.Move) (told string, e api.Errno) {
 			a.vars[s.Name] = pid(len(m.actors))
 			m.make(s.Actor, args)
 		case 3:
-			if args[0].Kind == 3 {
+			if args[0].Kind == 3 && m.actors[args[0].N].lives {
 				to := m.actors[args[0].N]
 				to.way = append(to.way, args[1])
 			}

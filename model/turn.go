@@ -75,8 +75,9 @@ func (t *turn) spawn() {
 	t.model.begin(kind, t.args)
 }
 
+// send puts a message on its way. One that has stopped gets none: it would wait there for ever, and models would be unlike of which the same comes.
 func (t *turn) send() {
-	if to := t.args[0]; to.Kind == api.ValPid && to.N < t.model.Actors() {
+	if to := t.args[0]; to.Kind == api.ValPid && t.model.lives(to.N) {
 		receiver := &t.model.actors[to.N]
 		receiver.way = append(receiver.way, t.args[1])
 	}
